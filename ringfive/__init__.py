@@ -1,0 +1,1 @@
+"""Fiverings: whole numbers of five rings."""
