@@ -6,21 +6,30 @@ import unittest
 from ringfive import rings
 from tests.model import END
 
-# Of each call: its parameters, how many numbers it gives back, and calls of it.
+# Of each call its parameters, and calls of it with how many numbers they give back.
 CALLS = {
     "times": (
         ["r", "x_a", "x_b", "y_a", "y_b"],
-        3,
-        [(0, 1, 2, 3, 4), (2, -5, 7, 0, 1), (4, END, -END, -END, END), (1, 0, 0, 0, 0)],
+        {(0, 1, 2, 3, 4): 3, (2, -5, 7, 0, 1): 3, (4, END, -END, -END, END): 3, (1, 0, 0, 0, 0): 3},
     ),
-    "mirror": (["r", "x_a", "x_b"], 3, [(0, 1, 2), (2, -5, 7), (4, END, -END), (1, 0, 0)]),
-    "norm": (["r", "x_a", "x_b"], 2, [(0, 1, 2), (2, -5, 7), (4, END, -END), (1, 0, 0)]),
+    "mirror": (["r", "x_a", "x_b"], {(0, 1, 2): 3, (2, -5, 7): 3, (4, END, -END): 3, (1, 0, 0): 3}),
+    "norm": (["r", "x_a", "x_b"], {(0, 1, 2): 2, (2, -5, 7): 2, (4, END, -END): 2, (1, 0, 0): 2}),
+    "unit": (["r", "k"], {(0, 1): 3, (2, -7): 3, (4, END): 3, (1, -END): 3, (3, 0): 3}),
+    "form": (["r", "x_a", "x_b"], {(0, 1, 2): 4, (2, -5, 7): 4, (4, -END, -END): 4, (1, 0, 0): 4}),
+    "by": (
+        ["r", "x_a", "x_b", "y_a", "y_b"],
+        {(0, 1, 2, 3, 4): 5, (2, -5, 7, 0, 1): 5, (4, END, -END, -END, 1): 5, (1, 0, 0, 1, 0): 5, (1, 2, 3, 0, 0): 1},
+    ),
 }
+
+
+def every_call():
+    return [(getattr(rings, name), arguments) for name in CALLS for arguments in CALLS[name][1]]
 
 
 class Interface(unittest.TestCase):
     def test_parameters(self):
-        for name, (parameters, length, calls) in CALLS.items():
+        for name, (parameters, calls) in CALLS.items():
             signature = inspect.signature(getattr(rings, name))
             self.assertEqual(list(signature.parameters), parameters)
             for parameter in signature.parameters.values():
@@ -28,8 +37,8 @@ class Interface(unittest.TestCase):
                 self.assertEqual(parameter.kind, inspect.Parameter.POSITIONAL_OR_KEYWORD)
 
     def test_answer_is_a_list_of_whole_numbers(self):
-        for name, (parameters, length, calls) in CALLS.items():
-            for arguments in calls:
+        for name, (parameters, calls) in CALLS.items():
+            for arguments, length in calls.items():
                 self.check_list(getattr(rings, name)(*arguments), length)
                 self.check_list(getattr(rings, name)(5, *arguments[1:]), 1)
 
@@ -38,28 +47,24 @@ class Interface(unittest.TestCase):
         self.assertEqual([type(number) for number in answer], [int] * length)
 
     def test_nothing_is_kept(self):
-        def all_answers():
-            return [getattr(rings, name)(*arguments) for name in CALLS for arguments in CALLS[name][2]]
-
-        first = all_answers()
+        first = [call(*arguments) for call, arguments in every_call()]
         copies = [list(answer) for answer in first]
         for answer in first:
             answer[0] = 99
             answer.append(99)
-        self.assertEqual(all_answers(), copies)
-        self.assertEqual(all_answers(), copies)
+        self.assertEqual([call(*arguments) for call, arguments in every_call()], copies)
+        self.assertEqual([call(*arguments) for call, arguments in every_call()[::-1]], copies[::-1])
 
     def test_a_changed_refusal_is_not_kept(self):
-        for name, (parameters, length, calls) in CALLS.items():
-            refused = (-1, *calls[0][1:])
-            getattr(rings, name)(*refused).append(99)
-            self.assertEqual(getattr(rings, name)(*refused), [-1])
+        for call, arguments in every_call():
+            refused = (-1, *arguments[1:])
+            call(*refused).append(99)
+            self.assertEqual(call(*refused), [-1])
 
     def test_nothing_is_printed(self):
         printed = io.StringIO()
         with contextlib.redirect_stdout(printed), contextlib.redirect_stderr(printed):
-            for name, (parameters, length, calls) in CALLS.items():
-                for arguments in calls:
-                    getattr(rings, name)(*arguments)
-                    getattr(rings, name)(-1, *arguments[1:])
+            for call, arguments in every_call():
+                call(*arguments)
+                call(-1, *arguments[1:])
         self.assertEqual(printed.getvalue(), "")

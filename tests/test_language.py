@@ -19,6 +19,11 @@ NODES_OUT = (
 )
 
 
+METHODS = """append clear copy count endswith extend find get index insert isalnum isalpha isdigit islower isspace
+isupper items join keys ljust lower lstrip partition pop remove replace reverse rfind rjust rpartition rsplit rstrip
+setdefault split splitlines startswith strip update upper values zfill bit_length""".split()
+
+
 def files():
     return sorted(PACKAGE.glob("**/*.py"))
 
@@ -96,3 +101,69 @@ class Language(unittest.TestCase):
             for node in nodes(path):
                 if isinstance(node, ast.Name) and isinstance(node.ctx, ast.Load):
                     self.assertIn(node.id, bound + ALLOWED_NAMES, path)
+
+    def test_names_at_a_files_top_are_bound_once(self):
+        for path in files():
+            names = []
+            for node in ast.parse(path.read_text(encoding="utf-8")).body:
+                if isinstance(node, (ast.FunctionDef, ast.ClassDef)):
+                    names.append(node.name)
+                elif isinstance(node, ast.Assign):
+                    names.append(node.targets[0].id)
+                elif isinstance(node, ast.ImportFrom):
+                    names.extend(alias.name for alias in node.names)
+                else:
+                    self.assertIsInstance(node, ast.Expr, path)
+                    self.assertIsInstance(node.value, ast.Constant, path)
+            self.assertEqual(len(names), len(set(names)), path)
+
+    def test_no_local_is_called_like_a_name_of_its_files_top(self):
+        for path in files():
+            tree = ast.parse(path.read_text(encoding="utf-8"))
+            top = [node.name for node in tree.body if isinstance(node, (ast.FunctionDef, ast.ClassDef))]
+            for node in tree.body:
+                if isinstance(node, ast.ImportFrom):
+                    top.extend(alias.name for alias in node.names)
+            for node in ast.walk(tree):
+                if isinstance(node, ast.arg):
+                    self.assertNotIn(node.arg, top, path)
+                if isinstance(node, ast.Name) and isinstance(node.ctx, ast.Store):
+                    self.assertNotIn(node.id, top, path)
+
+    def test_imports_come_from_the_file_that_defines(self):
+        for path in files():
+            for node in nodes(path):
+                if isinstance(node, ast.ImportFrom):
+                    source = PACKAGE.parent / (node.module.replace(".", "/") + ".py")
+                    defined = bound_names(source)
+                    for alias in node.names:
+                        self.assertIsNone(alias.asname, path)
+                        self.assertIn(alias.name, defined, path)
+                    self.assertNotIn(path.stem, [n.module.split(".")[-1] for n in nodes(source)
+                                                 if isinstance(n, ast.ImportFrom)])
+
+    def test_small_forms(self):
+        for path in files():
+            for node in nodes(path):
+                where = (path, getattr(node, "lineno", None))
+                if isinstance(node, (ast.For, ast.While)):
+                    self.assertEqual(node.orelse, [], where)
+                if isinstance(node, ast.ListComp):
+                    self.assertEqual(len(node.generators), 1, where)
+                    self.assertLessEqual(len(node.generators[0].ifs), 1, where)
+                if isinstance(node, ast.BinOp) and isinstance(node.op, ast.Pow):
+                    self.assertIsInstance(node.right, ast.Constant, where)
+                if isinstance(node, ast.Compare):
+                    self.assertFalse([op for op in node.ops if isinstance(op, (ast.Is, ast.IsNot))], where)
+                if isinstance(node, (ast.arg, ast.FunctionDef)):
+                    self.assertIsNone(getattr(node, "annotation", None) or getattr(node, "returns", None), where)
+                if isinstance(node, ast.Attribute):
+                    self.assertIn(node.attr, METHODS, where)
+                if isinstance(node, ast.keyword):
+                    self.assertEqual(node.arg, "key", where)
+
+    def test_no_built_in_name_is_a_value(self):
+        for path in files():
+            called = [node.func for node in nodes(path) if isinstance(node, ast.Call)]
+            loaded = [node for node in nodes(path) if isinstance(node, ast.Name) and node.id in ALLOWED_NAMES]
+            self.assertEqual(len([n for n in called if isinstance(n, ast.Name) and n.id in ALLOWED_NAMES]), len(loaded))
