@@ -72,3 +72,102 @@ def quotient(r, x, y):
     low_b = top[1] // n
     near = nearest_in_row(r, top, n, low_b) + nearest_in_row(r, top, n, low_b + 1)
     return min(near, key=lambda q: (norm_of(r, left_over(r, x, q, y)), q))
+
+
+def rest_of(r, x, y):
+    return left_over(r, x, quotient(r, x, y), y)
+
+
+def common_divisor(r, x, y):
+    # Each of the chain goes with the two numbers that make it of x and y.
+    before = (x, ONE, ZERO)
+    last = (y, ZERO, ONE)
+    while last[0] != ZERO:
+        q = quotient(r, before[0], last[0])
+        following = tuple([left_over(r, before[place], q, last[place]) for place in range(3)])
+        before = last
+        last = following
+    g_power = unit_of(r, turns_to_form(r, before[0]))
+    return [product(r, number, g_power) for number in before]
+
+
+def whole_root(n):
+    # The largest whole number whose square isn't above n: the guesses fall till they reach it.
+    guess = n
+    better = (n + 1) // 2
+    while better < guess:
+        guess = better
+        better = (guess + n // guess) // 2
+    return guess
+
+
+def forms_of_norm(r, n):
+    # With s = 2 a + t b: 4 n = s s + d b b. While b rises, s falls, so both go one way alone.
+    t = T_OF_RING[r]
+    d = 4 * C_OF_RING[r] - t * t
+    found = {}
+    s = whole_root(4 * n)
+    b = 0
+    while d * b * b <= 4 * n:
+        while s * s + d * b * b > 4 * n:
+            s = s - 1
+        if s * s + d * b * b == 4 * n:
+            found[form_of(r, ((s - t * b) // 2, b))] = True
+            found[form_of(r, ((s + t * b) // 2, -b))] = True
+        b = b + 1
+    return sorted(found)
+
+
+def whole_primes_of(n):
+    found = []
+    left = n
+    p = 2
+    while p * p <= left:
+        if left % p == 0:
+            found.append(p)
+        while left % p == 0:
+            left = left // p
+        p = 3 if p == 2 else p + 2
+    if left > 1:
+        found.append(left)
+    return found
+
+
+def primes_over(r, p):
+    # A whole prime that is no number's norm is a prime of the ring.
+    forms = forms_of_norm(r, p)
+    return forms if forms else [(p, 0)]
+
+
+def primes_of_both(r, x, p):
+    # p divides N(x). If p doesn't divide x, just one prime of norm p does, and a search for
+    # it among all numbers of the norm p, which may be large, is spared.
+    shared = common_divisor(r, x, (p, 0))[0]
+    return [shared] if norm_of(r, shared) == p else primes_over(r, p)
+
+
+def take_out(r, x, prime):
+    # x divided by the prime as often as that goes, and how often.
+    left = x
+    often = 0
+    while rest_of(r, left, prime) == ZERO:
+        left = quotient(r, left, prime)
+        often = often + 1
+    return (left, often)
+
+
+def factors_of(r, x):
+    # The unit, and of each prime its norm, the prime, how often it divides x.
+    found = []
+    left = x
+    for p in whole_primes_of(norm_of(r, x)):
+        for prime in primes_of_both(r, x, p):
+            taken = take_out(r, left, prime)
+            left = taken[0]
+            found.append((norm_of(r, prime), prime, taken[1]))
+    return (left, sorted(found))
+
+
+def is_prime(r, x):
+    found = factors_of(r, x)[1]
+    return len(found) == 1 and found[0][2] == 1

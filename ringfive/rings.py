@@ -1,10 +1,17 @@
 """The calls: each gives back one list, the answer and what is told with it, or a refusal alone."""
 
 from ringfive.reckon import (
-    ZERO, form_of, is_ring, left_over, mirror_of, norm_of, product, quotient, turns_to_form, unit_of,
+    ZERO, common_divisor, factors_of, form_of, is_prime, is_ring, left_over, mirror_of, norm_of, product, quotient,
+    turns_to_form, unit_of,
 )
 
 NO_SENSE = -1
+TOO_LARGE = -2
+LARGEST_SMALL_PART = 100000
+
+
+def is_small(x):
+    return abs(x[0]) <= LARGEST_SMALL_PART and abs(x[1]) <= LARGEST_SMALL_PART
 
 
 def told(answer, numbers):
@@ -52,3 +59,33 @@ def by(r, x_a, x_b, y_a, y_b):
         return [NO_SENSE]
     q = quotient(r, x, y)
     return told(0, [q, left_over(r, x, q, y)])
+
+
+def gcd(r, x_a, x_b, y_a, y_b):
+    if not is_ring(r):
+        return [NO_SENSE]
+    return told(0, common_divisor(r, (x_a, x_b), (y_a, y_b)))
+
+
+def kind(r, x_a, x_b):
+    x = (x_a, x_b)
+    if not is_ring(r):
+        return [NO_SENSE]
+    if not is_small(x):
+        return [TOO_LARGE]
+    if x == ZERO:
+        return [0]
+    if norm_of(r, x) == 1:
+        return [1]
+    return [2] if is_prime(r, x) else [3]
+
+
+def factors(r, x_a, x_b):
+    x = (x_a, x_b)
+    if not is_ring(r) or x == ZERO:
+        return [NO_SENSE]
+    if not is_small(x):
+        return [TOO_LARGE]
+    found = factors_of(r, x)
+    rows = [factor[1] + (factor[2],) for factor in found[1]]
+    return told(len(rows), [found[0]] + rows)

@@ -3,6 +3,8 @@
 It shares no formula with the program: sums and products are those of p, q and D.
 """
 
+from math import isqrt
+
 ROOT_OF_MINUS = (1, 2, 3, 7, 11)
 HALVED = (False, False, True, True, True)
 RINGS = (0, 1, 2, 3, 4)
@@ -115,3 +117,33 @@ def quotient(r, x, y):
 
 def rest(r, x, y):
     return minus(x, times(r, quotient(r, x, y), y))
+
+
+def plus(x, y):
+    return x[0] + y[0], x[1] + y[1]
+
+
+def up_to_norm(r, limit):
+    """All numbers whose norm is at most the limit, with their norms."""
+    d = ROOT_OF_MINUS[r] if HALVED[r] else 4 * ROOT_OF_MINUS[r]
+    far_b = isqrt(4 * limit // d) + 1
+    # The norm is at least d a a / (d + 1) where w is halved, and a a where it is not.
+    far_a = isqrt(limit * (d + 1) // d) + 1
+    found = []
+    for a in range(-far_a, far_a + 1):
+        for b in range(-far_b, far_b + 1):
+            if norm(r, (a, b)) <= limit:
+                found.append(((a, b), norm(r, (a, b))))
+    return found
+
+
+def gcd(r, x, y):
+    """d, u, v by the chain of rests, as the document tells it; both 0 is not asked here."""
+    chain = [(x, (1, 0), (0, 0)), (y, (0, 0), (1, 0))]
+    while (0, 0) not in [number for number, u, v in chain]:
+        q = quotient(r, chain[-2][0], chain[-1][0])
+        chain.append(tuple(minus(old, times(r, q, new)) for old, new in zip(chain[-2], chain[-1])))
+    last = [row for row in chain if row[0] != (0, 0)][-1]
+    for unit in UNITS[r]:
+        if times(r, last[0], unit) == form(r, last[0]):
+            return [times(r, number, unit) for number in last]
