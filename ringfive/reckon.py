@@ -3,6 +3,8 @@
 # w * w = t * w - c, for each ring r at the place r.
 T_OF_RING = (0, 0, 1, 1, 1)
 C_OF_RING = (1, 2, 1, 2, 3)
+# 4 N = s * s + d * b * b with s = 2 * a + t * b, so d = 4 * c - t * t.
+D_OF_RING = (4, 8, 3, 7, 11)
 # The units are the powers of g; how many there are.
 G_OF_RING = ((0, 1), (-1, 0), (0, 1), (-1, 0), (-1, 0))
 UNITS_OF_RING = (4, 2, 6, 2, 2)
@@ -102,9 +104,9 @@ def whole_root(n):
 
 
 def forms_of_norm(r, n):
-    # With s = 2 a + t b: 4 n = s s + d b b. While b rises, s falls, so both go one way alone.
+    # While b rises, s falls: each goes one way alone.
     t = T_OF_RING[r]
-    d = 4 * C_OF_RING[r] - t * t
+    d = D_OF_RING[r]
     found = {}
     s = whole_root(4 * n)
     b = 0
@@ -171,3 +173,18 @@ def factors_of(r, x):
 def is_prime(r, x):
     found = factors_of(r, x)[1]
     return len(found) == 1 and found[0][2] == 1
+
+
+def roots_of(r, x):
+    # The norm n of a root is the root of N(x), and as its square is x, of its s and b are
+    # s * s = double + 2 * n and d * b * b = 2 * n - double. Whether it is a root is tried.
+    t = T_OF_RING[r]
+    double = 2 * x[0] + t * x[1]
+    n = whole_root(norm_of(r, x))
+    if n * n != norm_of(r, x):
+        return []
+    s = whole_root(double + 2 * n)
+    b = whole_root((2 * n - double) // D_OF_RING[r])
+    near = [((s - t * b) // 2, b), ((s + t * b) // 2, -b)]
+    both = near + [minus(ZERO, z) for z in near]
+    return [z for z in both if product(r, z, z) == x]

@@ -1,13 +1,16 @@
 """The calls: each gives back one list, the answer and what is told with it, or a refusal alone."""
 
 from ringfive.reckon import (
-    ZERO, common_divisor, factors_of, form_of, is_prime, is_ring, left_over, mirror_of, norm_of, product, quotient,
-    turns_to_form, unit_of,
+    ZERO, common_divisor, factors_of, form_of, forms_of_norm, is_prime, is_ring, left_over, mirror_of, norm_of,
+    primes_over, product, quotient, roots_of, turns_to_form, unit_of, whole_primes_of,
 )
 
 NO_SENSE = -1
 TOO_LARGE = -2
+NONE_THERE = -3
 LARGEST_SMALL_PART = 100000
+LARGEST_NORM = 1000000000
+LARGEST_WHOLE_PRIME = 1000000
 
 
 def is_small(x):
@@ -89,3 +92,34 @@ def factors(r, x_a, x_b):
     found = factors_of(r, x)
     rows = [factor[1] + (factor[2],) for factor in found[1]]
     return told(len(rows), [found[0]] + rows)
+
+
+def norms(r, n):
+    if not is_ring(r) or n < 1:
+        return [NO_SENSE]
+    if n > LARGEST_NORM:
+        return [TOO_LARGE]
+    forms = forms_of_norm(r, n)
+    return told(len(forms), forms)
+
+
+def whole(r, p):
+    if not is_ring(r):
+        return [NO_SENSE]
+    if p > LARGEST_WHOLE_PRIME:
+        return [TOO_LARGE]
+    if whole_primes_of(p) != [p]:
+        return [NO_SENSE]
+    primes = primes_over(r, p)
+    if len(primes) == 2:
+        return told(1, primes)
+    return told(2 if norm_of(r, primes[0]) == p else 0, primes)
+
+
+def root(r, x_a, x_b):
+    if not is_ring(r):
+        return [NO_SENSE]
+    roots = roots_of(r, (x_a, x_b))
+    if len(roots) == 0:
+        return [NONE_THERE]
+    return told(0, [max(roots)])
