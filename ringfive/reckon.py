@@ -188,3 +188,23 @@ def roots_of(r, x):
     near = [((s - t * b) // 2, b), ((s + t * b) // 2, -b)]
     both = near + [minus(ZERO, z) for z in near]
     return [z for z in both if product(r, z, z) == x]
+
+
+def power_of(r, x, n):
+    result = ONE
+    for step in range(n):
+        result = product(r, result, x)
+    return result
+
+
+def rest_of_power(r, x, n, m):
+    # n may be large: its halvings are gone through, with x squared at each.
+    result = rest_of(r, ONE, m)
+    square = rest_of(r, x, m)
+    left = n
+    while left > 0:
+        if left % 2 == 1:
+            result = rest_of(r, product(r, result, square), m)
+        square = rest_of(r, product(r, square, square), m)
+        left = left // 2
+    return result

@@ -1,8 +1,9 @@
 """The calls: each gives back one list, the answer and what is told with it, or a refusal alone."""
 
 from ringfive.reckon import (
-    ZERO, common_divisor, factors_of, form_of, forms_of_norm, is_prime, is_ring, left_over, mirror_of, norm_of,
-    primes_over, product, quotient, roots_of, turns_to_form, unit_of, whole_primes_of,
+    ONE, ZERO, common_divisor, factors_of, form_of, forms_of_norm, is_prime, is_ring, left_over, mirror_of, norm_of,
+    power_of, primes_over, product, quotient, rest_of, rest_of_power, roots_of, turns_to_form, unit_of,
+    whole_primes_of,
 )
 
 NO_SENSE = -1
@@ -11,6 +12,7 @@ NONE_THERE = -3
 LARGEST_SMALL_PART = 100000
 LARGEST_NORM = 1000000000
 LARGEST_WHOLE_PRIME = 1000000
+LARGEST_POWER = 64
 
 
 def is_small(x):
@@ -123,3 +125,29 @@ def root(r, x_a, x_b):
     if len(roots) == 0:
         return [NONE_THERE]
     return told(0, [max(roots)])
+
+
+def power(r, x_a, x_b, n):
+    if not is_ring(r) or n < 0:
+        return [NO_SENSE]
+    if n > LARGEST_POWER:
+        return [TOO_LARGE]
+    return told(0, [power_of(r, (x_a, x_b), n)])
+
+
+def powrest(r, x_a, x_b, n, m_a, m_b):
+    m = (m_a, m_b)
+    if not is_ring(r) or n < 0 or m == ZERO:
+        return [NO_SENSE]
+    return told(0, [rest_of_power(r, (x_a, x_b), n, m)])
+
+
+def inverse(r, x_a, x_b, m_a, m_b):
+    m = (m_a, m_b)
+    if not is_ring(r) or m == ZERO:
+        return [NO_SENSE]
+    made = common_divisor(r, (x_a, x_b), m)
+    # The form of every unit is 1, and where d is 1, u x - 1 is a multiple of m.
+    if made[0] != ONE:
+        return [NONE_THERE]
+    return told(0, [rest_of(r, made[1], m)])

@@ -147,3 +147,19 @@ def gcd(r, x, y):
     for unit in UNITS[r]:
         if times(r, last[0], unit) == form(r, last[0]):
             return [times(r, number, unit) for number in last]
+
+
+def own_rests(r, m):
+    """All numbers that are their own rests by m: N(m) of them, none of a larger norm than m."""
+    steps = [(q, times(r, q, m)) for q in pairs(range(-2, 3)) if q != (0, 0)]
+    found = []
+    for z, size in up_to_norm(r, norm(r, m)):
+        others = [(norm(r, minus(z, multiple)), q) for q, multiple in steps]
+        if min(others) > (size, (0, 0)):
+            found.append(z)
+    return found
+
+
+def has_common_divisor(r, x, y, numbers):
+    """Whether one of the numbers, given with their norms, divides both and is no unit."""
+    return any(divides(r, d, x) and divides(r, d, y) for d, size in numbers if size > 1)

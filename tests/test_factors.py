@@ -3,9 +3,8 @@ import unittest
 from ringfive.rings import factors, form, kind, norm
 from tests import model, theory
 from tests.model import END, NO_RINGS, RINGS, UNITS
-from tests.test_kind import LARGEST, NOT_SMALL, kind_by_theory
+from tests.theory import LARGEST, NOT_SMALL, PRIME_NORM
 
-PRIME_NORM = ((100000, 99981), (-99999, -100000), (100000, 99989), (-99993, -100000), (100000, 99997))
 SQUARE_OF_A_PRIME = ((99999, -31360), (99967, 78366), (99997, -25032), (-99991, 41664), (-99986, -78645))
 TWO_LARGE = (
     ((100000, 99979), [25453, 785597]),
@@ -25,7 +24,7 @@ class Factors(unittest.TestCase):
         made = tuple(told[1:3])
         for a, b, often in rows:
             # The form of a small number need not be small.
-            self.assertEqual(kind_by_theory(r, (a, b)), 2, (r, x))
+            self.assertEqual(theory.kind(r, (a, b)), 2, (r, x))
             small = max(abs(a), abs(b)) <= LARGEST
             self.assertEqual(kind(r, a, b), [2 if small else -2], (r, x))
             self.assertEqual(form(r, a, b), [0, a, b, 0], (r, x))

@@ -3,22 +3,9 @@ import unittest
 from ringfive.rings import kind
 from tests import model, theory
 from tests.model import END, NO_RINGS, RINGS, UNITS
-from tests.theory import INERT, SPLIT, SQUARE
+from tests.theory import INERT, LARGEST, NOT_SMALL, SPLIT, SQUARE
 
 SMALL = model.pairs(range(-6, 7))
-LARGEST = 100000
-NOT_SMALL = [
-    (part, other) for part in (LARGEST + 1, -LARGEST - 1, END, -END) for other in (0, 1, -7, LARGEST, -LARGEST, END)
-]
-
-
-def kind_by_theory(r, x):
-    """A prime is of a norm that is a whole prime, or a whole prime that stays one, times a unit."""
-    if model.norm(r, x) < 2:
-        return model.norm(r, x)
-    a, b = model.form(r, x)
-    stays = b == 0 and theory.is_whole_prime(a) and theory.way_of(r, a) == INERT
-    return 2 if stays or theory.is_whole_prime(model.norm(r, x)) else 3
 
 
 class Kind(unittest.TestCase):
@@ -67,13 +54,12 @@ class Kind(unittest.TestCase):
         for r in RINGS:
             for a in (LARGEST, -LARGEST):
                 for b in (*range(-LARGEST, -LARGEST + 8), *range(-4, 5), *range(LARGEST - 20, LARGEST + 1)):
-                    self.assertEqual(kind(r, a, b), [kind_by_theory(r, (a, b))], (r, a, b))
-                    self.assertEqual(kind(r, b, a), [kind_by_theory(r, (b, a))], (r, b, a))
+                    self.assertEqual(kind(r, a, b), [theory.kind(r, (a, b))], (r, a, b))
+                    self.assertEqual(kind(r, b, a), [theory.kind(r, (b, a))], (r, b, a))
 
     def test_primes_at_the_largest_parts(self):
-        primes = ((100000, 99981), (-99999, -100000), (100000, 99989), (-99993, -100000), (100000, 99997))
         for r in RINGS:
-            self.assertEqual(kind(r, *primes[r]), [2])
+            self.assertEqual(kind(r, *theory.PRIME_NORM[r]), [2])
             self.assertEqual(kind(r, theory.NEAR_THE_END[r], 0), [2])
 
     def test_not_small(self):

@@ -1,6 +1,6 @@
 """What is known of whole primes in the five rings, by ways that the program does not go."""
 
-from tests.model import RINGS
+from tests.model import END, RINGS, form, norm
 
 # w w - t w + c is 0; t t - 4 c says whether it has a root by p.
 T = (0, 0, 1, 1, 1)
@@ -71,6 +71,22 @@ def how_many_of_norm(r, n):
     return result
 
 
+def kind(r, x):
+    """A prime is of a norm that is a whole prime, or a whole prime that stays one, times a unit."""
+    if norm(r, x) < 2:
+        return norm(r, x)
+    a, b = form(r, x)
+    stays = b == 0 and is_whole_prime(a) and way_of(r, a) == INERT
+    return 2 if stays or is_whole_prime(norm(r, x)) else 3
+
+
+# The largest part of a small number, and numbers that aren't small, with their large part first.
+LARGEST = 100000
+NOT_SMALL = [
+    (part, other) for part in (LARGEST + 1, -LARGEST - 1, END, -END) for other in (0, 1, -7, LARGEST, -LARGEST, END)
+]
+# Of each ring a number whose norm is a whole prime, with a part that is the largest.
+PRIME_NORM = ((100000, 99981), (-99999, -100000), (100000, 99989), (-99993, -100000), (100000, 99997))
 # Of each ring a prime that stays one, near 100,000.
 NEAR_THE_END = tuple(
     [p for p in range(100000, 99000, -1) if is_whole_prime(p) and way_of(r, p) == INERT][0] for r in RINGS
