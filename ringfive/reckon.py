@@ -31,6 +31,10 @@ def norm_of(r, x):
     return x[0] * x[0] + T_OF_RING[r] * x[0] * x[1] + C_OF_RING[r] * x[1] * x[1]
 
 
+def plus(x, y):
+    return (x[0] + y[0], x[1] + y[1])
+
+
 def minus(x, y):
     return (x[0] - y[0], x[1] - y[1])
 
@@ -208,3 +212,34 @@ def rest_of_power(r, x, n, m):
         square = rest_of(r, product(r, square, square), m)
         left = left // 2
     return result
+
+
+def classes_of(r, m):
+    # Of N(m) rests each prime of m leaves all but one in N(prime).
+    result = norm_of(r, m)
+    for factor in factors_of(r, m)[1]:
+        result = result // factor[0] * (factor[0] - 1)
+    return result
+
+
+def has_symbols(r, p):
+    return is_prime(r, p) and (norm_of(r, p) - 1) % UNITS_OF_RING[r] == 0
+
+
+def symbol_of(r, x, p):
+    if rest_of(r, x, p) == ZERO:
+        return ZERO
+    reached = rest_of_power(r, x, (norm_of(r, p) - 1) // UNITS_OF_RING[r], p)
+    fitting = [unit for unit in turned(r, ONE) if rest_of(r, minus(reached, unit), p) == ZERO]
+    return fitting[0]
+
+
+def meeting(r, x, m, y, n):
+    # With d = u m + v n, x + u m (y - x) / d is x by m, and by n it's y. None: an empty list.
+    made = common_divisor(r, m, n)
+    apart = minus(y, x)
+    if rest_of(r, apart, made[0]) != ZERO:
+        return []
+    steps = product(r, made[1], quotient(r, apart, made[0]))
+    multiple = form_of(r, quotient(r, product(r, m, n), made[0]))
+    return [rest_of(r, plus(x, product(r, m, steps)), multiple), multiple]

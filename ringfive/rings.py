@@ -1,9 +1,9 @@
 """The calls: each gives back one list, the answer and what is told with it, or a refusal alone."""
 
 from ringfive.reckon import (
-    ONE, ZERO, common_divisor, factors_of, form_of, forms_of_norm, is_prime, is_ring, left_over, mirror_of, norm_of,
-    power_of, primes_over, product, quotient, rest_of, rest_of_power, roots_of, turns_to_form, unit_of,
-    whole_primes_of,
+    ONE, ZERO, classes_of, common_divisor, factors_of, form_of, forms_of_norm, has_symbols, is_prime, is_ring,
+    left_over, meeting, mirror_of, norm_of, power_of, primes_over, product, quotient, rest_of, rest_of_power, roots_of,
+    symbol_of, turns_to_form, unit_of, whole_primes_of,
 )
 
 NO_SENSE = -1
@@ -151,3 +151,34 @@ def inverse(r, x_a, x_b, m_a, m_b):
     if made[0] != ONE:
         return [NONE_THERE]
     return told(0, [rest_of(r, made[1], m)])
+
+
+def count(r, m_a, m_b):
+    m = (m_a, m_b)
+    if not is_ring(r) or m == ZERO:
+        return [NO_SENSE]
+    if not is_small(m):
+        return [TOO_LARGE]
+    return [0, classes_of(r, m)]
+
+
+def symbol(r, x_a, x_b, p_a, p_b):
+    p = (p_a, p_b)
+    if not is_ring(r):
+        return [NO_SENSE]
+    if not is_small(p):
+        return [TOO_LARGE]
+    if not has_symbols(r, p):
+        return [NO_SENSE]
+    return told(0, [symbol_of(r, (x_a, x_b), p)])
+
+
+def meet(r, x_a, x_b, m_a, m_b, y_a, y_b, n_a, n_b):
+    m = (m_a, m_b)
+    n = (n_a, n_b)
+    if not is_ring(r) or m == ZERO or n == ZERO:
+        return [NO_SENSE]
+    met = meeting(r, (x_a, x_b), m, (y_a, y_b), n)
+    if len(met) == 0:
+        return [NONE_THERE]
+    return told(0, met)

@@ -4,7 +4,7 @@ import io
 import unittest
 
 from ringfive import rings
-from tests.model import END
+from tests.model import END, NO_RINGS
 
 # Of each call its parameters, and calls of it with how many numbers they give back.
 CALLS = {
@@ -45,7 +45,19 @@ CALLS = {
         ["r", "x_a", "x_b", "m_a", "m_b"],
         {(0, 1, 2, 3, 4): 3, (2, -5, 7, 0, 5): 3, (4, 2, 0, 4, 0): 1, (1, 2, 3, 0, 0): 1, (3, 0, 0, -1, 0): 3},
     ),
+    "count": (["r", "m_a", "m_b"], {(0, 1, 2): 2, (2, 100000, 7): 2, (4, -END, 0): 1, (1, 0, 0): 1, (3, -1, 0): 2}),
+    "symbol": (
+        ["r", "x_a", "x_b", "p_a", "p_b"],
+        {(0, 2, 0, 2, 1): 3, (2, 0, 0, 5, 0): 3, (4, END, -END, 7, 0): 3, (1, 2, 3, 0, 0): 1, (3, 1, 1, END, 0): 1},
+    ),
+    "meet": (
+        ["r", "x_a", "x_b", "m_a", "m_b", "y_a", "y_b", "n_a", "n_b"],
+        {(0, 1, 2, 3, 4, 5, 6, 7, 8): 5, (2, 1, 0, 2, 0, 0, 0, 4, 0): 1, (4, END, 1, -END, 1, 3, END, 1, END): 5,
+         (1, 2, 3, 0, 0, 1, 1, 1, 1): 1, (3, 2, 3, 1, 1, 1, 1, 0, 0): 1},
+    ),
 }
+NAMES = """times mirror norm unit form by gcd kind factors norms whole root power powrest inverse count symbol
+meet""".split()
 
 
 def every_call():
@@ -53,6 +65,12 @@ def every_call():
 
 
 class Interface(unittest.TestCase):
+    def test_every_call_is_there(self):
+        self.assertEqual(list(CALLS), NAMES)
+        for name in NAMES:
+            self.assertTrue(inspect.isfunction(getattr(rings, name)), name)
+            self.assertEqual(getattr(rings, name).__module__, "ringfive.rings")
+
     def test_parameters(self):
         for name, (parameters, calls) in CALLS.items():
             signature = inspect.signature(getattr(rings, name))
@@ -66,6 +84,17 @@ class Interface(unittest.TestCase):
             for arguments, length in calls.items():
                 self.check_list(getattr(rings, name)(*arguments), length)
                 self.check_list(getattr(rings, name)(5, *arguments[1:]), 1)
+
+    def test_no_ring(self):
+        for call, arguments in every_call():
+            for r in NO_RINGS:
+                self.assertEqual(call(r, *arguments[1:]), [-1], (call, r, arguments))
+
+    def test_arguments_by_name(self):
+        for name, (parameters, calls) in CALLS.items():
+            for arguments in calls:
+                call = getattr(rings, name)
+                self.assertEqual(call(**dict(zip(parameters, arguments))), call(*arguments), (name, arguments))
 
     def check_list(self, answer, length):
         self.assertIs(type(answer), list)
@@ -85,6 +114,12 @@ class Interface(unittest.TestCase):
             refused = (-1, *arguments[1:])
             call(*refused).append(99)
             self.assertEqual(call(*refused), [-1])
+
+    def test_what_is_handed_in_stays(self):
+        for call, arguments in every_call():
+            numbers = list(arguments)
+            call(*numbers)
+            self.assertEqual(numbers, list(arguments))
 
     def test_nothing_is_printed(self):
         printed = io.StringIO()
