@@ -62,7 +62,7 @@ class Factors(unittest.TestCase):
 
     def test_each_prime_is_told_as_often_as_it_divides(self):
         for r in RINGS:
-            primes = [x for x, size in model.up_to_norm(r, 30) if kind(r, *x) == [2] and form(r, *x)[3] == 0]
+            primes = [x for x, size in model.up_to_norm(r, 30) if theory.kind(r, x) == 2 and form(r, *x)[3] == 0]
             for x in [x for x in model.pairs(range(-5, 6)) if x != (0, 0)]:
                 told = {row[:2]: row[2] for row in self.check(r, x)}
                 for prime in primes:
